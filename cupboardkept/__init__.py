@@ -1,0 +1,1 @@
+"""What's kept how long: a cupboard of few places and the things that come."""
