@@ -9,9 +9,12 @@ BEGINS = 0
 THING = 1
 CHECK = 2
 BEST = 3
+MOST = 4
+PLAIN = 5
+ENOUGH = 6
 
 # By a call's number: how many whole numbers stand behind it.
-NUMBERS_BEHIND = (1, 3, 1, 0)
+NUMBERS_BEHIND = (1, 3, 1, 0, 0, 0, 0)
 
 
 class Thing:
@@ -20,9 +23,12 @@ class Thing:
         self.asked_for = asked_for
         self.worth = worth
 
+    def takes_a_place(self, day):
+        return self.comes <= day < self.asked_for
+
 
 def places_taken(things, day):
-    return len([thing for thing in things if thing.comes <= day < thing.asked_for])
+    return len([thing for thing in things if thing.takes_a_place(day)])
 
 
 def first_overfull_day(things, places):
@@ -36,6 +42,34 @@ def first_overfull_day(things, places):
 
 def worth_together(things):
     return sum([thing.worth for thing in things])
+
+
+def worth_then_how_many(things):
+    return (worth_together(things), len(things))
+
+
+def how_many_then_worth(things):
+    return (len(things), worth_together(things))
+
+
+def numbers_as_they_come(things):
+    return sorted(range(len(things)), key=lambda number: (things[number].comes, number))
+
+
+def asked_for_last(things, numbers):
+    return max(numbers, key=lambda number: (things[number].asked_for, number))
+
+
+def kept_as_they_come(things, places):
+    kept = []
+    for number in numbers_as_they_come(things):
+        kept.append(number)
+        day = things[number].comes
+        # What was asked for by then stays kept, but can't be thrown out any more.
+        there = [other for other in kept if things[other].takes_a_place(day)]
+        if len(there) > places:
+            kept.remove(asked_for_last(things, there))
+    return kept
 
 
 class Cupboard:
@@ -70,23 +104,38 @@ class Cupboard:
             return [-6, day, places_taken(things, day)]
         return [worth_together(things), len(things)]
 
-    def best(self):
-        best_rank = (0, 0)
-        best_set = 0
+    def foremost(self, rank_of):
+        foremost_rank = (0, 0)
+        foremost_set = 0
         as_good = 0
         # The sets are walked from the least number on, and only a better one
         # takes the place of the one found: so the least of several is told.
         for chosen in range(1 << len(self.things)):
             things = self.things_of(chosen)
-            rank = (worth_together(things), len(things))
-            if rank < best_rank or first_overfull_day(things, self.places) is not None:
+            rank = rank_of(things)
+            if rank < foremost_rank or first_overfull_day(things, self.places) is not None:
                 continue
-            if rank > best_rank:
-                best_rank = rank
-                best_set = chosen
+            if rank > foremost_rank:
+                foremost_rank = rank
+                foremost_set = chosen
                 as_good = 0
             as_good += 1
-        return [best_rank[0], best_rank[1], as_good, best_set]
+        return [foremost_rank[0], foremost_rank[1], as_good, foremost_set]
+
+    def best(self):
+        return self.foremost(worth_then_how_many)
+
+    def most(self):
+        return self.foremost(how_many_then_worth)
+
+    def plain(self):
+        kept = sum([1 << number for number in kept_as_they_come(self.things, self.places)])
+        things = self.things_of(kept)
+        return [len(things), worth_together(things), kept]
+
+    def enough(self):
+        # The fullest day is one on which a thing comes.
+        return [max([places_taken(self.things, thing.comes) for thing in self.things], default=0)]
 
 
 def answer_call(cupboard, call, numbers):
@@ -96,7 +145,13 @@ def answer_call(cupboard, call, numbers):
         return cupboard.thing(numbers[0], numbers[1], numbers[2])
     if call == CHECK:
         return cupboard.check(numbers[0])
-    return cupboard.best()
+    if call == BEST:
+        return cupboard.best()
+    if call == MOST:
+        return cupboard.most()
+    if call == PLAIN:
+        return cupboard.plain()
+    return cupboard.enough()
 
 
 def answers(calls):

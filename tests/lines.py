@@ -5,6 +5,9 @@ from cupboardkept.cupboard import answers
 LARGEST = 4294967295
 
 BEST = [3]
+MOST = [4]
+PLAIN = [5]
+ENOUGH = [6]
 
 
 def begins(places):
